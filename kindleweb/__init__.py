@@ -1,0 +1,1 @@
+"""Kindleweb: hearths that kindle where so many neighbours burn."""

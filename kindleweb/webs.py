@@ -1,0 +1,89 @@
+"""Webs: what each hearth wants, and which hearths are linked."""
+
+from kindleweb.errors import BadSet, BadWeb
+
+MOST_HEARTHS = 40
+MOST_WANTED = 60
+
+
+def made_web(wants, links):
+    if len(wants) > MOST_HEARTHS:
+        raise BadWeb("a web has at most 40 hearths")
+    for want in wants:
+        if want < 0 or want > MOST_WANTED:
+            raise BadWeb("a hearth wants from 0 to 60 neighbours")
+    pairs = sorted([lesser_first(len(wants), link) for link in links])
+    if not rises(pairs):
+        raise BadWeb("two links have the same two hearths")
+    return (tuple(wants), tuple(pairs))
+
+
+def lesser_first(many, link):
+    one = min(link)
+    other = max(link)
+    if one < 0 or other >= many:
+        raise BadWeb("a link has a number that is no hearth")
+    if one == other:
+        raise BadWeb("a link joins two unlike hearths")
+    return (one, other)
+
+
+def rises(things):
+    return all([ahead < behind for ahead, behind in zip(things, things[1:])])
+
+
+def hearths_in(web):
+    return len(web[0])
+
+
+def near_lists(web):
+    # The links rise, so each hearth meets its lesser neighbours first and the lists rise too.
+    around = [[] for want in web[0]]
+    for one, other in web[1]:
+        around[one].append(other)
+        around[other].append(one)
+    return around
+
+
+def near(web, hearth):
+    return near_lists(web)[hearth]
+
+
+def degree_of(web, hearth):
+    return len(near(web, hearth))
+
+
+def made_set(web, hearths):
+    for hearth in hearths:
+        if hearth < 0 or hearth >= hearths_in(web):
+            raise BadSet("a set has a number that is no hearth")
+    if not rises(hearths):
+        raise BadSet("the hearths of a set do not rise")
+    return tuple(hearths)
+
+
+def has_each_once(web, numbers):
+    return sorted(numbers) == list(range(hearths_in(web)))
+
+
+def moved_web(web, places):
+    if not has_each_once(web, places):
+        raise BadWeb("each place comes once")
+    wants = list(web[0])
+    for hearth, place in enumerate(places):
+        wants[place] = web[0][hearth]
+    return made_web(wants, [(places[one], places[other]) for one, other in web[1]])
+
+
+def rest_web(web, some):
+    places = {}
+    for place, hearth in enumerate(made_set(web, some)):
+        places[hearth] = place
+    around = near_lists(web)
+    wants = [max(0, web[0][hearth] - count_outside(around[hearth], places)) for hearth in places]
+    links = [(places[one], places[other]) for one, other in web[1] if one in places and other in places]
+    return (tuple(wants), tuple(links))
+
+
+def count_outside(hearths, inside):
+    return len([hearth for hearth in hearths if hearth not in inside])

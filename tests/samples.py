@@ -1,0 +1,60 @@
+"""Webs and sets that several tests go through."""
+
+from itertools import combinations, product
+
+from kindleweb.webs import made_web
+
+REFUSALS = ("BadWeb", "BadSet", "BadOrder", "BadPrices", "BadBoard", "BadDeed",
+            "NotWood", "NoPaper", "NoSuch", "TooMany", "NoText", "OddRound")
+FAR = 10 ** 59
+
+
+def row_web(many, want):
+    return made_web([want] * many, [(k, k + 1) for k in range(many - 1)])
+
+
+def ring_web(many, want):
+    return made_web([want] * many, [(k, (k + 1) % many) for k in range(many)])
+
+
+def knot_web(many, want):
+    return made_web([want] * many, list(combinations(range(many), 2)))
+
+
+def sets_of(many):
+    return [some for size in range(many + 1) for some in combinations(range(many), size)]
+
+
+def wrong_sets(many):
+    """Lists of numbers that are no sets of a web with so many hearths, from 2 on."""
+    return [[0, 0], [1, 0], [-1], [-1, 0], [many], [0, many], [FAR], [-FAR]]
+
+
+def small_webs():
+    """Every web of at most 3 hearths with wants up to 3, and some greater ones."""
+    webs = []
+    for many in range(4):
+        pairs = list(combinations(range(many), 2))
+        for wants in product(range(4), repeat=many):
+            for bits in product((0, 1), repeat=len(pairs)):
+                webs.append((wants, tuple(pair for pair, bit in zip(pairs, bits) if bit)))
+    return webs + mixed_webs()
+
+
+def mixed_webs():
+    """Webs of 4 to 7 hearths, mixed by a plain sum so that they are the same each time."""
+    webs = []
+    state = 1
+    for turn in range(40):
+        many = 4 + turn % 4
+        wants = []
+        links = []
+        for one in range(many):
+            state = (state * 1103515245 + 12345) % (1 << 31)
+            wants.append((state >> 16) % 4)
+            for other in range(one + 1, many):
+                state = (state * 1103515245 + 12345) % (1 << 31)
+                if (state >> 16) % 5 < 2:
+                    links.append((one, other))
+        webs.append(made_web(wants, links))
+    return webs

@@ -1,0 +1,88 @@
+"""The package keeps to the part of Python that it is written in, and uses no clock, chance or files."""
+
+import ast
+import builtins
+import re
+import unittest
+from pathlib import Path
+
+PACKAGE = Path(__file__).resolve().parent.parent / "kindleweb"
+NODES = """Module Expr Constant ImportFrom alias FunctionDef arguments arg ClassDef Return Assign AugAssign If While For
+Break Continue Pass Raise Try ExceptHandler Call Attribute Subscript Slice Name Load Store List Tuple Dict ListComp
+comprehension JoinedStr FormattedValue Lambda IfExp BoolOp And Or UnaryOp Not USub Invert BinOp Add Sub Mult FloorDiv Mod
+Pow BitAnd BitOr BitXor LShift RShift Compare Eq NotEq Lt LtE Gt GtE Is IsNot In NotIn""".split()
+NAMES = """len range enumerate zip min max sum abs sorted reversed int str bool list tuple dict set frozenset isinstance ord
+repr any all divmod Exception ValueError TypeError KeyError IndexError LookupError ZeroDivisionError ArithmeticError
+OverflowError RuntimeError NotImplementedError""".split()
+WORDS = """type typing typing_extensions enum Enum IntEnum StrEnum Flag IntFlag Generic Protocol ABC ABCMeta namedtuple
+NamedTuple TypedDict TYPE_CHECKING abstractmethod""".split()
+METHODS = """append clear copy count endswith extend find get index insert isalnum isalpha isdigit islower isspace isupper
+items join keys ljust lower lstrip partition pop remove replace reverse rfind rjust rpartition rsplit rstrip setdefault
+split splitlines startswith strip update upper values zfill bit_length add discard""".split()
+OF_PYTHON = set(dir(str) + dir(int) + dir(list) + dir(dict) + dir(set) + dir(bytes))
+
+
+def sources():
+    return [(path.name, path.read_text(encoding="utf-8")) for path in sorted(PACKAGE.glob("*.py"))]
+
+
+class Form(unittest.TestCase):
+    def walked(self):
+        for name, text in sources():
+            for node in ast.walk(ast.parse(text)):
+                yield f"{name}:{getattr(node, 'lineno', 0)}", node
+
+    def test_only_python_files(self):
+        for path in PACKAGE.iterdir():
+            if path.name != "__pycache__":
+                self.assertRegex(path.name, r"^[a-z0-9_]+\.py$")
+
+    def test_signs_and_sizes(self):
+        for name, text in sources():
+            rows = text.split("\n")
+            self.assertLessEqual(len(rows), 400, name)
+            self.assertRegex(text, r"^[ -~\n]*$", name)
+            self.assertLessEqual(max(len(row) for row in rows), 120, name)
+
+    def test_functions_are_small(self):
+        for place, node in self.walked():
+            if isinstance(node, ast.FunctionDef):
+                self.assertLessEqual(node.end_lineno - node.lineno + 1, 40, place)
+
+    def test_words_that_stand_nowhere(self):
+        for name, text in sources():
+            self.assertEqual([word for word in WORDS if re.search(rf"\b{word}\b", text)], [], name)
+
+    def test_only_plain_parts_of_the_language(self):
+        for place, node in self.walked():
+            self.assertIn(type(node).__name__, NODES, place)
+            if isinstance(node, ast.Constant):
+                self.assertIn(type(node.value), (int, str, bool, type(None)), place)
+            if isinstance(node, ast.Assign):
+                self.assertEqual(len(node.targets), 1, place)
+
+    def test_only_own_modules_are_drawn_from(self):
+        for place, node in self.walked():
+            if isinstance(node, ast.ImportFrom):
+                self.assertEqual(node.level, 0, place)
+                self.assertTrue(node.module.startswith("kindleweb."), place)
+                self.assertNotIn("*", [name.name for name in node.names], place)
+
+    def test_names_of_python(self):
+        for place, node in self.walked():
+            if isinstance(node, ast.Name):
+                self.assertNotRegex(node.id, "^_", place)
+                if hasattr(builtins, node.id):
+                    self.assertIn(node.id, NAMES, place)
+                    self.assertIsInstance(node.ctx, ast.Load, place)
+            if isinstance(node, ast.arg):
+                self.assertFalse(hasattr(builtins, node.arg), place)
+
+    def test_methods_of_python(self):
+        for place, node in self.walked():
+            if isinstance(node, ast.Attribute) and node.attr in OF_PYTHON:
+                self.assertIn(node.attr, METHODS + ["__init__"], place)
+
+
+if __name__ == "__main__":
+    unittest.main()
