@@ -85,5 +85,21 @@ def rest_web(web, some):
     return (tuple(wants), tuple(links))
 
 
+def marked(hearths):
+    inside = {}
+    for hearth in hearths:
+        inside[hearth] = True
+    return inside
+
+
+def count_inside(hearths, inside):
+    return len([hearth for hearth in hearths if hearth in inside])
+
+
 def count_outside(hearths, inside):
-    return len([hearth for hearth in hearths if hearth not in inside])
+    return len(hearths) - count_inside(hearths, inside)
+
+
+def all_but(web, some):
+    inside = marked(some)
+    return tuple([hearth for hearth in range(hearths_in(web)) if hearth not in inside])

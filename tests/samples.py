@@ -58,3 +58,24 @@ def mixed_webs():
                     links.append((one, other))
         webs.append(made_web(wants, links))
     return webs
+
+
+def neighbours(web, hearth):
+    return [k for k in range(len(web[0])) if (k, hearth) in web[1] or (hearth, k) in web[1]]
+
+
+def burnt_by_words(web, seeds):
+    """What burns in the end, straight by [2.1], with the round of each hearth."""
+    ranks = {hearth: 0 for hearth in seeds}
+    turn = 0
+    while True:
+        turn += 1
+        lit = [k for k in range(len(web[0])) if k not in ranks
+               and len([j for j in neighbours(web, k) if j in ranks]) >= web[0][k]]
+        if not lit:
+            return ranks
+        ranks.update({hearth: turn for hearth in lit})
+
+
+def cold_by_words(web, block):
+    return all(len([j for j in neighbours(web, k) if j not in block]) < web[0][k] for k in block)
