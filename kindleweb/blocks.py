@@ -2,7 +2,7 @@
 
 from kindleweb.cold import cold_within, is_cold
 from kindleweb.errors import TooMany
-from kindleweb.webs import all_but, count_inside, hearths_in, made_set, marked
+from kindleweb.webs import all_but, count_inside, hearths_in, made_set, marked, sets_among, without
 
 MOST_SEARCHED = 12
 
@@ -12,7 +12,7 @@ def least_within(web, some):
     left = whole
     for hearth in whole:
         if hearth in left:
-            smaller = cold_within(web, [other for other in left if other != hearth])
+            smaller = cold_within(web, without(left, [hearth]))
             if smaller:
                 left = smaller
     return left
@@ -24,27 +24,28 @@ def is_least(web, block):
 
 
 def least_colds(web):
-    if hearths_in(web) > MOST_SEARCHED:
-        raise TooMany("least cold blocks are searched in webs of at most 12 hearths")
-    chosen = all_sets(web)
-    holds_cold = [False]
-    found = []
-    for place in range(1, len(chosen)):
-        # A set without one of its hearths stands earlier in the list, so it is known already.
-        holds_less = any([holds_cold[place - (1 << hearth)] for hearth in chosen[place]])
-        least = not holds_less and is_cold(web, chosen[place])
-        if least:
-            found.append(chosen[place])
-        holds_cold.append(holds_less or least)
+    chosen = searched_sets(web)
+    holds = holding_cold(web, chosen)
+    found = [some for place, some in enumerate(chosen) if holds[place] and not holds_without_one(holds, place, some)]
     return sorted(found)
 
 
-def all_sets(web):
-    # Each hearth doubles the list, so a set's place is the sum of 1 << hearth over its hearths.
-    chosen = [()]
-    for hearth in range(hearths_in(web)):
-        chosen = chosen + [some + (hearth,) for some in chosen]
-    return chosen
+def searched_sets(web):
+    if hearths_in(web) > MOST_SEARCHED:
+        raise TooMany("webs of at most 12 hearths are searched through")
+    return sets_among(list(range(hearths_in(web))))
+
+
+def holding_cold(web, chosen):
+    holds = [False]
+    for place in range(1, len(chosen)):
+        holds.append(holds_without_one(holds, place, chosen[place]) or is_cold(web, chosen[place]))
+    return holds
+
+
+def holds_without_one(holds, place, some):
+    # A set without one of its hearths stands earlier among all sets, so what it holds is known already.
+    return any([holds[place - (1 << hearth)] for hearth in some])
 
 
 def cold_paper(web, seeds):

@@ -1,7 +1,7 @@
 """Cold blocks: hearths that never kindle by what burns outside of them."""
 
 from kindleweb.spread import burnt
-from kindleweb.webs import all_but, count_outside, made_set, marked, near_lists
+from kindleweb.webs import all_but, count_outside, made_set, marked, near_lists, without
 
 
 def is_cold(web, block):
@@ -35,8 +35,7 @@ def cold_pieces(web, block):
     while left:
         piece = first_piece(around, left)
         pieces.append(piece)
-        gone = marked(piece)
-        left = tuple([hearth for hearth in left if hearth not in gone])
+        left = without(left, piece)
     return pieces
 
 

@@ -53,13 +53,26 @@ def degree_of(web, hearth):
     return len(near(web, hearth))
 
 
+def is_hearth(web, number):
+    return number >= 0 and number < hearths_in(web)
+
+
+def is_set(web, numbers):
+    return rises(numbers) and all([is_hearth(web, number) for number in numbers])
+
+
 def made_set(web, hearths):
-    for hearth in hearths:
-        if hearth < 0 or hearth >= hearths_in(web):
-            raise BadSet("a set has a number that is no hearth")
-    if not rises(hearths):
-        raise BadSet("the hearths of a set do not rise")
+    if not is_set(web, hearths):
+        raise BadSet("a set is of rising hearths of the web")
     return tuple(hearths)
+
+
+def sets_among(hearths):
+    # Each hearth doubles the list, so a set's place is the sum of 1 << k over the turns k of its hearths.
+    chosen = [()]
+    for hearth in hearths:
+        chosen = chosen + [some + (hearth,) for some in chosen]
+    return chosen
 
 
 def has_each_once(web, numbers):
@@ -100,6 +113,10 @@ def count_outside(hearths, inside):
     return len(hearths) - count_inside(hearths, inside)
 
 
+def without(hearths, some):
+    gone = marked(some)
+    return tuple([hearth for hearth in hearths if hearth not in gone])
+
+
 def all_but(web, some):
-    inside = marked(some)
-    return tuple([hearth for hearth in range(hearths_in(web)) if hearth not in inside])
+    return without(list(range(hearths_in(web))), some)

@@ -79,3 +79,14 @@ def burnt_by_words(web, seeds):
 
 def cold_by_words(web, block):
     return all(len([j for j in neighbours(web, k) if j not in block]) < web[0][k] for k in block)
+
+
+def lighting_by_words(web):
+    """All sets of seeds from which each hearth burns in the end."""
+    return [seeds for seeds in sets_of(len(web[0])) if len(burnt_by_words(web, seeds)) == len(web[0])]
+
+
+def wrong_prices(many):
+    """Lists that are no prices for so many hearths, from 2 on."""
+    return [[], [1] * (many - 1), [1] * (many + 1), [-1] + [1] * (many - 1), [1] * (many - 1) + [-1],
+            [FAR] * (many - 1) + [-FAR]]

@@ -78,6 +78,31 @@ class Form(unittest.TestCase):
             if isinstance(node, ast.arg):
                 self.assertFalse(hasattr(builtins, node.arg), place)
 
+    def test_locals_are_called_unlike_what_stands_at_the_top(self):
+        for name, text in sources():
+            tree = ast.parse(text)
+            top = [part.name for node in tree.body if isinstance(node, ast.ImportFrom) for part in node.names]
+            top += [node.name for node in tree.body if isinstance(node, (ast.ClassDef, ast.FunctionDef))]
+            self.assertEqual(len(top), len(set(top)), name)
+            for node in ast.walk(tree):
+                given = node.arg if isinstance(node, ast.arg) else None
+                if isinstance(node, ast.Name) and isinstance(node.ctx, ast.Store):
+                    given = node.id
+                self.assertNotIn(given, top, f"{name}:{getattr(node, 'lineno', 0)}")
+
+    def test_walked_at_once(self):
+        for place, node in self.walked():
+            if isinstance(node, ast.Assign) and isinstance(node.value, ast.Call):
+                called = node.value.func
+                self.assertNotIn(getattr(called, "id", getattr(called, "attr", None)),
+                                 ("zip", "enumerate", "reversed", "range", "items", "keys", "values", "set"), place)
+            if isinstance(node, ast.Call) and isinstance(node.func, ast.Name):
+                for part in node.args:
+                    if isinstance(part, ast.Call) and isinstance(part.func, ast.Name) \
+                            and part.func.id in ("zip", "enumerate", "reversed", "range"):
+                        self.assertIn(node.func.id, ("list", "tuple", "dict", "sorted", "sum", "any", "all",
+                                                     "enumerate", "zip", "min", "max"), place)
+
     def test_methods_of_python(self):
         for place, node in self.walked():
             if isinstance(node, ast.Attribute) and node.attr in OF_PYTHON:
