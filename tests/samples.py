@@ -60,6 +60,32 @@ def mixed_webs():
     return webs
 
 
+def small_woods():
+    """Every web without rounds of at most 3 hearths with wants up to 3, and some greater ones."""
+    return [web for web in small_webs()[:-40] if len(web[1]) < 3] + mixed_woods()
+
+
+def mixed_woods():
+    """Webs without rounds of 4 to 8 hearths, likewise mixed; some fall into several trees."""
+    webs = []
+    state = 7
+    for turn in range(60):
+        many = 4 + turn % 5
+        wants = []
+        links = []
+        for one in range(many):
+            state = (state * 1103515245 + 12345) % (1 << 31)
+            wants.append((state >> 16) % 4)
+            state = (state * 1103515245 + 12345) % (1 << 31)
+            other = (state >> 16) % (one + 1)
+            if other < one:
+                # Seven and eleven have no factor in common with the counts that are asked for.
+                step = 11 if many == 7 else 7
+                links.append((one * step % many, other * step % many))
+        webs.append(made_web(wants, links))
+    return webs
+
+
 def neighbours(web, hearth):
     return [k for k in range(len(web[0])) if (k, hearth) in web[1] or (hearth, k) in web[1]]
 
