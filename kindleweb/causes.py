@@ -1,17 +1,14 @@
 """Why each hearth burns, told as a paper that can be judged by itself."""
 
 from kindleweb.errors import NoPaper
-from kindleweb.spread import rounds
+from kindleweb.spread import ranks_of
 from kindleweb.webs import hearths_in, made_set, near_lists, rises
 
 CAUSE_OF_SEED = (0, ())
 
 
 def causes(web, seeds):
-    ranks = {}
-    for rank, lit in enumerate(rounds(web, seeds)):
-        for hearth in lit:
-            ranks[hearth] = rank
+    ranks = ranks_of(web, seeds)
     around = near_lists(web)
     return [told_cause(web, around, ranks, hearth) for hearth in range(hearths_in(web))]
 

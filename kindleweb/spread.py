@@ -24,11 +24,16 @@ def can_kindle(web, around, burning, hearth):
     return hearth not in burning and count_inside(around[hearth], burning) >= web[0][hearth]
 
 
+def ranks_of(web, seeds):
+    ranks = {}
+    for rank, lit in enumerate(rounds(web, seeds)):
+        for hearth in lit:
+            ranks[hearth] = rank
+    return ranks
+
+
 def burnt(web, seeds):
-    burning = []
-    for lit in rounds(web, seeds):
-        burning.extend(lit)
-    return tuple(sorted(burning))
+    return tuple(sorted(ranks_of(web, seeds)))
 
 
 def lights_all(web, seeds):
