@@ -9,9 +9,15 @@ NONE_AT_ALL = "."
 
 
 def web_text(web):
-    wants = [str(want) for want in web[0]]
-    links = [f"{one}-{other}" for one, other in web[1]]
-    return row_of(wants) + "\n" + row_of(links)
+    return numbers_row(web[0]) + "\n" + links_row(web[1])
+
+
+def numbers_row(numbers):
+    return row_of([str(number) for number in numbers])
+
+
+def links_row(links):
+    return row_of([f"{one}-{other}" for one, other in links])
 
 
 def row_of(words):
@@ -40,12 +46,16 @@ def words_of(row):
 
 
 def read_number(word, most):
-    if not is_number(word):
-        raise NoText("a number is not written as one")
-    number = int(word)
+    number = read_figures(word)
     if number > most:
         raise NoText("a number is too great")
     return number
+
+
+def read_figures(word):
+    if not is_number(word):
+        raise NoText("a number is not written as one")
+    return int(word)
 
 
 def is_number(word):

@@ -68,6 +68,42 @@ class Form(unittest.TestCase):
                 self.assertTrue(node.module.startswith("kindleweb."), place)
                 self.assertNotIn("*", [name.name for name in node.names], place)
 
+    def test_names_are_drawn_from_the_file_that_defines_them(self):
+        defined = {}
+        drawn = {}
+        for name, text in sources():
+            body = ast.parse(text).body
+            module = "kindleweb." + name[:-3]
+            defined[module] = [node.name for node in body if isinstance(node, (ast.FunctionDef, ast.ClassDef))]
+            defined[module] += [node.targets[0].id for node in body if isinstance(node, ast.Assign)]
+            drawn[module] = [node for node in body if isinstance(node, ast.ImportFrom)]
+        for module, nodes in drawn.items():
+            for node in nodes:
+                for part in node.names:
+                    self.assertIn(part.name, defined[node.module], module)
+                    self.assertIsNone(part.asname, module)
+        # Files that draw from none that is left are taken away, until there is none; a ring would stay.
+        left = {module: {node.module for node in nodes} for module, nodes in drawn.items()}
+        while left:
+            ends = [module for module in left if not left[module].intersection(left)]
+            self.assertTrue(ends, left)
+            left = {module: left[module] for module in left if module not in ends}
+
+    def test_every_name_that_is_drawn_is_used(self):
+        for name, text in sources():
+            tree = ast.parse(text)
+            used = {node.id for node in ast.walk(tree) if isinstance(node, ast.Name)}
+            for node in tree.body:
+                if isinstance(node, ast.ImportFrom):
+                    self.assertEqual([part.name for part in node.names if part.name not in used], [], name)
+
+    def test_no_name_is_a_method_and_a_value(self):
+        methods = {part.name for place, node in self.walked() if isinstance(node, ast.ClassDef) for part in node.body
+                   if isinstance(part, ast.FunctionDef)}
+        values = {node.attr for place, node in self.walked()
+                  if isinstance(node, ast.Attribute) and isinstance(node.ctx, ast.Store)}
+        self.assertEqual(methods.intersection(values), set())
+
     def test_names_of_python(self):
         for place, node in self.walked():
             if isinstance(node, ast.Name):
